@@ -1,0 +1,1 @@
+"""Termlays: terms at once or one behind another."""
