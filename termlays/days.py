@@ -7,28 +7,33 @@ from termlays.values import is_int
 
 def is_lengths(sheet, value):
     """Whether any value is lengths for the sheet."""
+    return has_days(value, sheet.names)
+
+
+def has_days(value, names):
+    """Whether any value is a dict from names to days that has all of these names."""
     if not isinstance(value, dict):
         return False
     if not all([is_name(name) and is_int(days) and days >= 0 for name, days in value.items()]):
         return False
-    return all([name in value for name in sheet.names])
+    return all([name in value for name in names])
 
 
 def begins(sheet, lengths):
     """The dict from the names of the sheet to the parts at which their terms begin."""
-    spans = _spans(_full_lines(sheet), _served_days(sheet, lengths))
+    spans = _spans(full_lines(sheet), _served_days(sheet, lengths))
     return {name: start for name, (start, _) in spans.items()}
 
 
 def ends(sheet, lengths):
     """The dict from the names of the sheet to the parts at which their terms end."""
-    spans = _spans(_full_lines(sheet), _served_days(sheet, lengths))
+    spans = _spans(full_lines(sheet), _served_days(sheet, lengths))
     return {name: stop for name, (_, stop) in spans.items()}
 
 
 def end(sheet, lengths):
     """The end of the sheet."""
-    return _last_stop(_spans(_full_lines(sheet), _served_days(sheet, lengths)))
+    return _last_stop(_spans(full_lines(sheet), _served_days(sheet, lengths)))
 
 
 def least_end(sheet, lengths):
@@ -36,8 +41,8 @@ def least_end(sheet, lengths):
     return _last_stop(_spans(sheet.lines, _served_days(sheet, lengths)))
 
 
-def _full_lines(sheet):
-    # The end is the least end of a sheet of which all twelve twelfths of each term must be served.
+def full_lines(sheet):
+    """The lines of the sheet as if all of each term must be served: their least end is the end of the sheet."""
     return [(name, lay, 12) for name, lay, _ in sheet.lines]
 
 

@@ -1,6 +1,18 @@
-"""What every part of the package asks of single values."""
+"""What every part of the package asks of single values and of weights."""
 
 
 def is_int(value):
     """Whether any value is an integer: an int that is not a bool."""
     return isinstance(value, int) and not isinstance(value, bool)
+
+
+def is_weights(value, many):
+    """Whether any value is weights, one for each of so many things."""
+    if not isinstance(value, tuple) or len(value) != many:
+        return False
+    return all([is_int(weight) and weight >= 0 for weight in value]) and sum(value) > 0
+
+
+def weighed(weights, numbers):
+    """The sum of the numbers, each times its weight."""
+    return sum([weight * number for weight, number in zip(weights, numbers)])

