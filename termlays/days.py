@@ -2,7 +2,7 @@
 
 from termlays.errors import BadLengths
 from termlays.sheets import is_name
-from termlays.values import is_int
+from termlays.values import is_count
 
 
 def is_lengths(sheet, value):
@@ -14,7 +14,7 @@ def has_days(value, names):
     """Whether any value is a dict from names to days that has all of these names."""
     if not isinstance(value, dict):
         return False
-    if not all([is_name(name) and is_int(days) and days >= 0 for name, days in value.items()]):
+    if not all([is_name(name) and is_count(days) for name, days in value.items()]):
         return False
     return all([name in value for name in names])
 

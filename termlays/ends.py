@@ -1,40 +1,26 @@
 """Mixtures of chains, and ends, which chains tell."""
 
-from termlays.chains import added, amount, chains_of, is_chain, least_chains_of, within
+from termlays.chains import added, amount, chains_of, is_chain, least_chains_of
 from termlays.errors import BadChains
-from termlays.games import settled
-from termlays.values import is_weights, weighed
+from termlays.games import weigh_up, weighs_up
 
 
 def is_mixture(chain, chains, value):
     """Whether any value is weights, one for each of the chains, by which the chain lies within the mixture."""
-    if not is_weights(value, len(chains)):
-        return False
-    ahead = [_parts_ahead(other, chain) for other in chains]
-    return all([weighed(value, parts) >= 0 for parts in zip(*ahead)])
+    return weighs_up(value, _all_parts_ahead(chains, chain))
 
 
 def mixture(chain, chains):
     """Any weights by which the chain lies within the mixture of the chains, None if there are none."""
-    for number, other in enumerate(chains):
-        if within(chain, other):
-            return _spread({number: 1}, len(chains))
-    if len(chains) == 0:
-        return None
-    # The chain lies within a mixture just if the value of the game of the parts by which the chains are ahead of it,
-    # name by name, is not below 0. Mostly the game of a few of the chains shows it: its rows are days at which none
-    # of these comes up to the chain, so either one more chain does, or none at all.
-    ahead = [_parts_ahead(other, chain) for other in chains]
-    days = [1] * len(chain)
-    picked = []
-    while True:
-        sums = [weighed(days, parts) for parts in ahead]
-        if max(sums) < 0:
-            return None
-        picked.append(sums.index(max(sums)))
-        value, weights, days = settled([[ahead[number][row] for number in picked] for row in range(len(chain))])
-        if value[0] >= 0:
-            return _spread(dict(zip(picked, weights)), len(chains))
+    return weigh_up(_all_parts_ahead(chains, chain), len(chain))[0]
+
+
+def days_ahead(chain, chains):
+    """Any days, one for each name of the chain, at which it is ahead of all of the chains, None if there are none.
+
+    All other names have no days, and the empty string counts as a name like the others.
+    """
+    return weigh_up(_all_parts_ahead(chains, chain), len(chain))[1]
 
 
 def ends_of(sheet):
@@ -47,15 +33,14 @@ def least_ends_of(sheet):
     return Ends(least_chains_of(sheet))
 
 
+def _all_parts_ahead(chains, chain):
+    return [_parts_ahead(other, chain) for other in chains]
+
+
 def _parts_ahead(other, chain):
     """By how many parts the other chain is ahead of the chain, for each name of the chain."""
     held = dict(other)
     return [held.get(name, 0) - parts for name, parts in chain]
-
-
-def _spread(weights, many):
-    """So many weights, those that are told by their numbers, all others 0."""
-    return tuple([weights.get(number, 0) for number in range(many)])
 
 
 def _are_chains(value):

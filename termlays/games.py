@@ -45,6 +45,33 @@ def is_settled(matrix, value):
     return all([bottom * weighed(rows, column) <= top * sum(rows) for column in zip(*matrix)])
 
 
+def weigh_up(columns, many):
+    """Two things, one of them None: weights by which the columns come to 0 or more in each of so many rows.
+
+    And if there are none, weights of the rows by which each column comes to less than 0.
+    """
+    for number, column in enumerate(columns):
+        if all([entry >= 0 for entry in column]):
+            return _spread({number: 1}, len(columns)), None
+    # There are weights just if the value of the game is not below 0. Mostly the game of a few of the columns shows it:
+    # its rows are weights by which none of these comes up to 0, so either one more column does, or none at all.
+    rows = (1,) * many
+    picked = []
+    while True:
+        sums = [weighed(rows, column) for column in columns]
+        if max(sums, default=-1) < 0:
+            return None, rows
+        picked.append(sums.index(max(sums)))
+        value, weights, rows = settled([[columns[number][row] for number in picked] for row in range(many)])
+        if value[0] >= 0:
+            return _spread(dict(zip(picked, weights)), len(columns)), None
+
+
+def weighs_up(value, columns):
+    """Whether any value is weights by which the columns come to 0 or more in each row."""
+    return is_weights(value, len(columns)) and all([weighed(value, row) >= 0 for row in zip(*columns)])
+
+
 def _is_row(value):
     return isinstance(value, list) and len(value) > 0 and all([is_int(entry) for entry in value])
 
@@ -62,6 +89,11 @@ def _lowest(numbers):
     for number in numbers:
         common = gcd(common, number)
     return tuple([number // common for number in numbers])
+
+
+def _spread(weights, many):
+    """So many weights, those that are told by their numbers, all others 0."""
+    return tuple([weights.get(number, 0) for number in range(many)])
 
 
 def _first_table(matrix, lift):

@@ -3,7 +3,7 @@
 import itertools
 import random
 
-from termlays.ends import Ends
+from termlays.ends import Ends, ends_of, least_ends_of
 from termlays.sheets import Sheet
 
 # The greatest number of days that callers hand in.
@@ -100,3 +100,65 @@ def summed(chain, lengths):
     for name, parts in chain:
         total += parts * (1 if name == "" and "" not in lengths else lengths[name])
     return total
+
+
+def greatest(chains, lengths):
+    """The greatest amount of the chains."""
+    return max(summed(chain, lengths) for chain in chains)
+
+
+def near_chains(draw, chains):
+    """The chains with a little changed: a part more or less, a pair or a chain left out, a mean of two put in."""
+    chains = [dict(chain) for chain in chains]
+    at, way = draw.randrange(len(chains)), draw.randint(0, 4)
+    name = draw.choice(sorted(chains[at]) + ["a"])
+    if way < 2:
+        chains[at][name] = max(0, chains[at].get(name, 0) + draw.choice([-1, 1]))
+    elif way == 2:
+        chains[at].pop(name, None)
+    elif way == 3 and len(chains) > 1:
+        chains.pop(at)
+    else:
+        other = draw.choice(chains)
+        both = sorted({*chains[at], *other})
+        chains.append({name: (chains[at].get(name, 0) + other.get(name, 0)) // 2 for name in both})
+    return [tuple(sorted((name, parts) for name, parts in chain.items() if parts)) for chain in chains]
+
+
+def drawn_pairs(seed, many, names=("", "a", "b", "c", "d", "e")):
+    """So many pairs of ends, drawn: of sheets, told by hand, put together, often near one another."""
+    draw = random.Random(seed)
+    sheets = list(drawn_sheets(seed, 2 * many, 5))
+    for number in range(many):
+        one, other = [draw.choice([ends_of, least_ends_of])(sheet) for sheet in sheets[2 * number:2 * number + 2]]
+        few = names[draw.randint(0, 1):draw.randint(2, len(names))]
+        hand = Ends(drawn_chains(draw, few, draw.choice([1, 2, 3, 144, 10 ** 60]), draw.randint(1, 6)))
+        told = [one, other, hand, hand + one, hand | one, hand * 2, one.without("a"), Ends([()])]
+        late = draw.choice(told)
+        pair = [late, draw.choice([draw.choice(told), Ends(near_chains(draw, late.chains)), Ends(late.chains)])]
+        yield draw.sample(pair, 2)
+
+
+def are_weights(value, many):
+    """Whether any value is weights, one for each of so many things, by the words of the document."""
+    if type(value) is not tuple or len(value) != many:
+        return False
+    return all(type(weight) is int and weight >= 0 for weight in value) and any(value)
+
+
+def near_weights(draw, weights):
+    """Values that are nearly the weights; some of them are weights that are right, too."""
+    at = draw.randrange(len(weights))
+    numbers = [0, 1, 9, -1, -weights[at], weights[at] + 1, weights[at] - 1, True, False, None, "1", (1,), 10 ** 60]
+    others = [weights[:at] + (number,) + weights[at + 1:] for number in numbers]
+    others += [weights[::-1], weights + (0,), weights + (1,), weights[:-1], list(weights), (0,) * len(weights), ()]
+    others += [tuple(7 * weight for weight in weights), tuple(-weight for weight in weights), None, 1, "1", {}]
+    return others
+
+
+def near_papers(draw, value):
+    """Values that are nearly the paper; some of them are papers, too."""
+    at = draw.randrange(len(value))
+    values = [value[:at] + [other] + value[at + 1:] for other in near_weights(draw, value[at])]
+    values += [tuple(value), value[::-1], value + [value[at]], value[:-1], [value], [], None, {0: value[at]}]
+    return values + [value[at]]

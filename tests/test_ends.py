@@ -12,7 +12,7 @@ from termlays.errors import BadChains, BadLengths
 from termlays.games import settled
 from termlays.sheets import Sheet
 from tests.samples import (
-    ANY_VALUES, BIG, MIXED, drawn_chains, drawn_lengths, drawn_sheets, raised, small_sheets, summed,
+    ANY_VALUES, BIG, drawn_chains, drawn_lengths, drawn_sheets, greatest, raised, small_sheets, summed,
 )
 from tests.test_mixtures import days_of_two, mixes
 
@@ -35,10 +35,6 @@ def times_of(chains, times):
 
 def without(chains, name):
     return [tuple(pair for pair in chain if pair[0] != name) for chain in chains]
-
-
-def greatest(chains, lengths):
-    return max(summed(chain, lengths) for chain in chains)
 
 
 def is_ahead(chain, chains, lengths):

@@ -38,6 +38,29 @@ EXAMPLES = {
 >>> [late.chains, late.at({"a": 3, "b": 5}), (late * 2).chains, late + late == late * 2, late.without("a").chains]
 [[(('a', 2),), (('b', 2),)], 10, [(('a', 4),), (('b', 4),)], True, [(('b', 2),)]]
 ''',
+    "stage 6": '''
+>>> from termlays.ends import Ends
+>>> from termlays.later import is_later, is_paper, later_lengths, never_later, paper
+>>> one, other = Ends([(("a", 1), ("b", 1))]), Ends([(("a", 2),), (("b", 2),)])
+>>> [never_later(one, other), is_paper(one, other, paper(one, other)), is_paper(one, other, [(2, 2)]), is_later(other, one, {"a": 1, "b": 0}), later_lengths(one, other)]
+[True, True, True, True, None]
+''',
+    "stage 7": '''
+>>> from termlays.ends import Ends
+>>> from termlays.ranges import amounts, corners, greatest_end, least_end_in
+>>> late, ranges = Ends([(("a", 2),), (("b", 2),)]), {"a": (0, 2), "b": (1, 1)}
+>>> [corners(ranges, total=2), amounts(late, ranges), greatest_end(late, ranges), least_end_in(late, ranges)]
+[[{'a': 1, 'b': 1}], [[0, 2], [4, 2]], 4, (2, 1)]
+''',
+    "stage 8": '''
+>>> from termlays.ends import ends_of
+>>> from termlays.matters import best_served, gain, never_worse, room
+>>> from termlays.sheets import Sheet
+>>> sheet = Sheet([("a", ("now",), 12), ("b", ("behind", ("a",)), 8), ("c", ("split", "a", 6), 12)])
+>>> late, days = ends_of(sheet), {"a": 10, "b": 6, "c": 8}
+>>> [gain(late, "c"), room(sheet, days, "c"), best_served(sheet, days, 2), never_worse(late, "a", "b"), never_worse(late, "b", "a")]
+[144, 4, ['a', 'b'], True, False]
+''',
 }
 
 ERRORS = (
@@ -58,6 +81,22 @@ FUNCTIONS = {
     "termlays.ends": {
         "is_mixture": "(chain, chains, value)", "mixture": "(chain, chains)",
         "ends_of": "(sheet)", "least_ends_of": "(sheet)",
+    },
+    "termlays.later": {
+        "never_later": "(one, other)", "paper": "(one, other)", "is_paper": "(one, other, value)",
+        "later_lengths": "(one, other)", "is_later": "(one, other, value)",
+    },
+    "termlays.ranges": {
+        "corners": "(ranges, *, total=None)", "amounts": "(ends, ranges, *, total=None)",
+        "greatest_end": "(ends, ranges, *, total=None)", "least_end_in": "(ends, ranges, *, total=None)",
+        "paper_in": "(one, other, ranges, *, total=None)",
+        "is_paper_in": "(one, other, ranges, value, *, total=None)",
+        "later_in": "(one, other, ranges, *, total=None)",
+        "is_later_in": "(one, other, ranges, value, *, total=None)",
+    },
+    "termlays.matters": {
+        "matters": "(ends, name)", "gain": "(ends, name)", "room": "(sheet, lengths, name)",
+        "marked": "(ends, name)", "never_worse": "(ends, one, other)", "best_served": "(sheet, lengths, days)",
     },
 }
 METHODS = {
