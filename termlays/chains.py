@@ -38,12 +38,12 @@ def added(one, other):
 
 def chains_of(sheet):
     """The ascending list of the chains of the sheet."""
-    return _told_chains(full_lines(sheet), sheet.quashed)
+    return chains_told(full_lines(sheet), sheet.quashed, {}, {})
 
 
 def least_chains_of(sheet):
     """The ascending list of the least chains of the sheet."""
-    return _told_chains(sheet.lines, sheet.quashed)
+    return chains_told(sheet.lines, sheet.quashed, {}, {})
 
 
 def longest(sheet, lengths):
@@ -53,6 +53,24 @@ def longest(sheet, lengths):
     return max(chains_of(sheet), key=lambda chain: amount(chain, lengths))
 
 
+def chains_told(lines, quashed, told, laid):
+    """The ascending list of the chains of lines, if of each term its least is served, and of the quashed ones nothing.
+
+    The told names have their days, the laid ones are laid on days later than day 0: both come in as parts of the
+    empty string.
+    """
+    begins = {}
+    ends = {}
+    for name, lay, least in lines:
+        word, twelfths = _served(name, 0 if name in quashed else least, told)
+        begins[name] = _begin_chains(lay, begins, ends, laid.get(name, 0))
+        stops = [_longer(chain, word, 12 * twelfths) for chain in begins[name]]
+        if lay[0] == "split":
+            stops = stops + [_longer(chain, word, lay[2] * twelfths) for chain in ends[lay[1]]]
+        ends[name] = _outermost(stops)
+    return _outermost([()] + [chain for stops in ends.values() for chain in stops])
+
+
 def _is_pair(value):
     if not isinstance(value, tuple) or len(value) != 2:
         return False
@@ -60,25 +78,21 @@ def _is_pair(value):
     return (name == "" or is_name(name)) and is_int(parts) and parts >= 1
 
 
-def _told_chains(lines, quashed):
-    """The chains of the lines if of each term its least is served, and of the quashed ones nothing."""
-    begins = {}
-    ends = {}
-    for name, lay, least in lines:
-        twelfths = 0 if name in quashed else least
-        begins[name] = _begin_chains(lay, begins, ends)
-        stops = [_longer(chain, name, 12 * twelfths) for chain in begins[name]]
-        if lay[0] == "split":
-            stops = stops + [_longer(chain, name, lay[2] * twelfths) for chain in ends[lay[1]]]
-        ends[name] = _outermost(stops)
-    return _outermost([()] + [chain for stops in ends.values() for chain in stops])
+def _served(name, least, told):
+    """The name under which the twelfths of a term come in, and how many of them: so many for each day that is told."""
+    return ("", least * told[name]) if name in told else (name, least)
 
 
-def _begin_chains(lay, begins, ends):
+def _begin_chains(lay, begins, ends, day):
+    """The chains by which a term begins that is laid on this day."""
+    return _outermost(_anchor_chains(lay, begins, ends) + [_longer((), "", 144 * day)])
+
+
+def _anchor_chains(lay, begins, ends):
     if lay[0] == "now":
         return [()]
     if lay[0] == "behind":
-        return _outermost([chain for anchor in lay[1] for chain in ends[anchor]])
+        return [chain for anchor in lay[1] for chain in ends[anchor]]
     return begins[lay[1]]
 
 

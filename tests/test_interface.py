@@ -61,6 +61,38 @@ EXAMPLES = {
 >>> [gain(late, "c"), room(sheet, days, "c"), best_served(sheet, days, 2), never_worse(late, "a", "b"), never_worse(late, "b", "a")]
 [144, 4, ['a', 'b'], True, False]
 ''',
+    "stage 9": '''
+>>> from termlays.lean import lean, spare
+>>> from termlays.sheets import Sheet
+>>> sheet = Sheet([("a", ("now",), 12), ("b", ("behind", ("a",)), 12), ("c", ("behind", ("a", "b")), 12)])
+>>> [spare(sheet), lean(sheet).line_named("c")]
+[[(2, 'a')], ('c', ('behind', ('b',)), 12)]
+''',
+    "stage 10": '''
+>>> from termlays.answers import answers, told_back
+>>> from termlays.ends import ends_of
+>>> from termlays.sheets import Sheet
+>>> late = ends_of(Sheet([("a", ("now",), 12), ("b", ("beside", "a"), 12)]))
+>>> [answers(late, ["b", "a"]), told_back(["a", "b"], answers(late, ["a", "b"])).chains]
+[{(): 0, ('a',): 144, ('b',): 144, ('a', 'b'): 144}, [(('a', 144),), (('b', 144),)]]
+''',
+    "stage 11": '''
+>>> from termlays.books import Book
+>>> book = Book()
+>>> [book.lay("a", ("now",)), book.pass_days(2), book.lay("b", ("behind", ("a",))), book.form().chains, book.tell("b", 3), book.end(), book.tell("a", 1), book.end(), book.undo()]
+[None, None, None, [(('', 288), ('b', 144)), (('a', 144), ('b', 144))], None, None, None, 720, ('tell', 'a', 1)]
+''',
+    "stage 12": '''
+>>> from termlays.ends import Ends
+>>> from termlays.papers import format_ends, format_sheet, read_ends, read_sheet
+>>> from termlays.sheets import Sheet
+>>> sheet = Sheet([("a", ("now",), 12), ("b", ("behind", ("a",)), 8), ("c", ("split", "a", 6), 12)], quashed=["c"])
+>>> [format_sheet(sheet).split("\\n"), format_ends(Ends([(("a", 2),), (("b", 2),)])), read_ends("nought").chains]
+[['a now', 'b behind a; least 8', 'c split a 6; quashed'], 'a 2\\nb 2', [()]]
+>>> read_sheet("a now\\nb behind c")
+Traceback (most recent call last):
+termlays.errors.BadLine: 2
+''',
 }
 
 ERRORS = (
@@ -98,6 +130,14 @@ FUNCTIONS = {
         "matters": "(ends, name)", "gain": "(ends, name)", "room": "(sheet, lengths, name)",
         "marked": "(ends, name)", "never_worse": "(ends, one, other)", "best_served": "(sheet, lengths, days)",
     },
+    "termlays.lean": {"spare": "(sheet)", "lean": "(sheet)"},
+    "termlays.answers": {
+        "lots": "(names)", "answers": "(ends, names)", "is_whole": "(ends)", "told_back": "(names, answers)",
+    },
+    "termlays.books": {"replayed": "(events)"},
+    "termlays.papers": {
+        "format_sheet": "(sheet)", "format_ends": "(ends)", "read_sheet": "(text)", "read_ends": "(text)",
+    },
 }
 METHODS = {
     ("termlays.sheets", "Sheet"): {
@@ -109,10 +149,16 @@ METHODS = {
         "__init__": "(self, chains)", "__eq__": "(self, other)", "__add__": "(self, other)", "__or__": "(self, other)",
         "__mul__": "(self, other)", "at": "(self, lengths)", "without": "(self, name)",
     },
+    ("termlays.books", "Book"): {
+        "__init__": "(self)", "lay": "(self, name, lay, *, least=12)", "quash": "(self, name)",
+        "restore": "(self, name)", "tell": "(self, name, days)", "pass_days": "(self, days)", "undo": "(self)",
+        "fork": "(self)", "form": "(self)", "end": "(self)",
+    },
 }
 PROPERTIES = {
     ("termlays.sheets", "Sheet"): ["lines", "names", "quashed"],
     ("termlays.ends", "Ends"): ["chains", "names"],
+    ("termlays.books", "Book"): ["day", "sheet", "told", "history"],
 }
 
 
