@@ -56,8 +56,8 @@ def longest(sheet, lengths):
 def chains_told(lines, quashed, told, laid):
     """The ascending list of the chains of lines, if of each term its least is served, and of the quashed ones nothing.
 
-    The told names have their days, the laid ones are laid on days later than day 0: both come in as parts of the
-    empty string.
+    Told is a dict from names to their days, laid one from names to the days on which their lines are laid, day 0 if
+    they lack; both come in as parts of the empty string.
     """
     begins = {}
     ends = {}

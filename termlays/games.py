@@ -46,9 +46,8 @@ def is_settled(matrix, value):
 
 
 def weigh_up(columns, many):
-    """Two things, one of them None: weights by which the columns come to 0 or more in each of so many rows.
-
-    And if there are none, weights of the rows by which each column comes to less than 0.
+    """Weights by which the columns come to 0 or more in each of so many rows, and None; or, if there are none, the
+    other way round: None, and weights of the rows by which each column comes to less than 0.
     """
     for number, column in enumerate(columns):
         if all([entry >= 0 for entry in column]):
